@@ -1,0 +1,1 @@
+"""Twicedial: the ring of fractions, doubled."""
