@@ -63,6 +63,20 @@ def chords_cross(c, d):
     return inside[0] != inside[1]
 
 
+def rotations(values):
+    return [values[k:] + values[:k] for k in range(len(values))]
+
+
+def within_a_gap(members, others):
+    """Whether all members lie in one gap of the others."""
+    if set(members) & set(others):
+        return False
+    if len(others) == 1:
+        return True
+    around = [(others[k - 1], others[k]) for k in range(len(others))]
+    return any(all(lies_within(a, x, b) for x in members) for a, b in around)
+
+
 def pairs_made(most):
     """The pairs of periods from 2 to most, made as the document tells it, ascending."""
     made = []
@@ -123,6 +137,66 @@ def inner_marks(t, x, count, is_upper):
     seen, ahead = walk(fraction(x))
     marks = "".join(inner_mark_of(t, ratio(y), is_upper) for y in seen)
     return written_out((marks[:ahead], marks[ahead:]), count)
+
+
+@lru_cache(maxsize=None)
+def pairs_listed(most):
+    """The pairs of periods from 2 to most as ratios, ascending, as a tuple that is made once."""
+    return tuple(pairs_made(most))
+
+
+def encloses(pair, x):
+    """Whether a place lies strictly between the places of a pair."""
+    return fraction(pair[0]) < fraction(x) < fraction(pair[1])
+
+
+def classes_under(t, places, is_upper):
+    """All classes under t of the places, each as a list in the sequence of the places."""
+    found = {}
+    for x in places:
+        # So many marks tell two rows apart if the places have at most 10 steps.
+        found.setdefault(inner_marks(t, x, 30, is_upper), []).append(x)
+    return list(found.values())
+
+
+def digits_of(x):
+    """The head and the cycle of the binary digits of a ratio, by walking."""
+    seen, ahead = walk(fraction(x))
+    every = "".join("1" if y >= HALF else "0" for y in seen)
+    return every[:ahead], every[ahead:]
+
+
+def value_of(head, cycle):
+    """The fraction with these binary digits."""
+    ahead = Fraction(int("0" + head, 2), 2 ** len(head))
+    return (ahead + Fraction(int(cycle, 2), (2 ** len(cycle) - 1) * 2 ** len(head))) % 1
+
+
+def copy_of(pair, x):
+    """The copy of a place as a fraction, from the digits."""
+    low, high = (digits_of(end)[1] for end in pair)
+    head, cycle = ("".join({"0": low, "1": high}[digit] for digit in part) for part in digits_of(x))
+    return value_of(head, cycle)
+
+
+def numbered(marks, k):
+    """Mark number k, counted from 1 and going on for ever."""
+    return (marks * k)[k - 1]
+
+
+def unlike(marks, m):
+    """next_unlike over so many marks that they surely repeat."""
+    for k in range(m + 1, m + 3 * len(marks) + 1):
+        if numbered(marks, k) != numbered(marks, k - m):
+            return k
+    return None
+
+
+def addressed(marks):
+    numbers = [1]
+    while unlike(marks, numbers[-1]) is not None and unlike(marks, numbers[-1]) <= len(marks):
+        numbers.append(unlike(marks, numbers[-1]))
+    return tuple(numbers)
 
 
 def turns(most):

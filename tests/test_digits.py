@@ -2,9 +2,8 @@
 
 import itertools
 import unittest
-from fractions import Fraction
 
-from oracle import HALF, all_places, error_of, fraction, is_plain, ratio, walk
+from oracle import HALF, all_places, error_of, fraction, is_plain, ratio, value_of, walk
 from twicedial.digitwords import digits, place_of
 from twicedial.errors import NotText
 from twicedial.places import check_place
@@ -13,12 +12,6 @@ from twicedial.placetexts import read_place, written
 
 def binaries(most):
     return ["".join(word) for count in range(most + 1) for word in itertools.product("01", repeat=count)]
-
-
-def value_of(head, cycle):
-    """The place of a binary fraction, from the series of its digits."""
-    ahead = Fraction(int(head, 2), 2 ** len(head)) if head else Fraction(0)
-    return (ahead + Fraction(int(cycle, 2), (2 ** len(cycle) - 1) * 2 ** len(head))) % 1
 
 
 class Digits(unittest.TestCase):

@@ -3,25 +3,11 @@
 import itertools
 import unittest
 
-from oracle import all_places, doubled, fraction, is_plain, lies_within, ratio
+from oracle import all_places, doubled, fraction, is_plain, lies_within, ratio, rotations, within_a_gap
 from twicedial.members import are_apart, gap_at, gaps, keeps_order, led
 
 SOME = all_places(3)
 CLASSES = [c for count in range(1, 4) for c in itertools.combinations(SOME, count)]
-
-
-def rotations(values):
-    return [values[k:] + values[:k] for k in range(len(values))]
-
-
-def within_a_gap(members, others):
-    """Whether all members lie in one gap of the others."""
-    if set(members) & set(others):
-        return False
-    if len(others) == 1:
-        return True
-    around = [(others[k - 1], others[k]) for k in range(len(others))]
-    return any(all(lies_within(a, x, b) for x in members) for a, b in around)
 
 
 class Gaps(unittest.TestCase):

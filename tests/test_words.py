@@ -3,7 +3,7 @@
 import itertools
 import unittest
 
-from oracle import all_places, error_of, is_plain, steps
+from oracle import addressed, all_places, error_of, is_plain, steps, unlike
 from twicedial.errors import NotWord, TooMany
 from twicedial.inner import inner_row
 from twicedial.marks import star_word
@@ -12,26 +12,6 @@ from twicedial.words import address, check_word, next_unlike, star_words, upper_
 
 def all_marks(most):
     return ["".join(word) for count in range(1, most + 1) for word in itertools.product("01*", repeat=count)]
-
-
-def numbered(marks, k):
-    """Mark number k, counted from 1 and going on for ever."""
-    return (marks * k)[k - 1]
-
-
-def unlike(marks, m):
-    """next_unlike over so many marks that they surely repeat."""
-    for k in range(m + 1, m + 3 * len(marks) + 1):
-        if numbered(marks, k) != numbered(marks, k - m):
-            return k
-    return None
-
-
-def addressed(marks):
-    numbers = [1]
-    while unlike(marks, numbers[-1]) is not None and unlike(marks, numbers[-1]) <= len(marks):
-        numbers.append(unlike(marks, numbers[-1]))
-    return tuple(numbers)
 
 
 class Checks(unittest.TestCase):

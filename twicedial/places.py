@@ -12,10 +12,20 @@ MOST_LISTED = 10
 
 def check_place(value):
     """The value itself, if it is a place."""
-    if not _is_place(value):
+    if not is_place(value):
         # The message does not show the value: Python refuses to write integers of very many digits.
         raise NotPlace("not a place")
     return value
+
+
+def is_place(value):
+    """Whether a value is a place."""
+    if not isinstance(value, tuple) or len(value) != 2:
+        return False
+    top, bottom = value
+    if not (is_whole(top) and is_whole(bottom)):
+        return False
+    return 0 <= top < bottom and _is_in_reach(bottom) and gcd(top, bottom) == 1
 
 
 def place(top, bottom):
@@ -81,15 +91,6 @@ def places(ahead, again):
     bottom = ((1 << again) - 1) << ahead
     reached = [reduced(top, bottom) for top in range(bottom)]
     return tuple([x for x in reached if way_in(x) == ahead and period(x) == again])
-
-
-def _is_place(value):
-    if not isinstance(value, tuple) or len(value) != 2:
-        return False
-    top, bottom = value
-    if not (is_whole(top) and is_whole(bottom)):
-        return False
-    return 0 <= top < bottom and _is_in_reach(bottom) and gcd(top, bottom) == 1
 
 
 def _is_in_reach(bottom):
