@@ -33,6 +33,12 @@ INTERFACE = {
     "portraits": ["portrait_breach(value)", "check_portrait(value)", "arcs_of(portrait)", "least_arc(portrait)",
                   "portrait_of(pair)", "ray_count(pair)", "class_count(pair)"],
     "knotgaps": ["knot_gaps(t)"],
+    "lets": ["failing(word)", "is_let(word)", "denominators(word)", "place_count(word)", "places_of(word)"],
+    "copies": ["copied(pair, x)", "original(pair, y)", "copied_word(word, other)", "copied_pair(pair, other_pair)",
+               "bases(pair)"],
+    "angled": ["angled_address(t)", "pair_at(angled)"],
+    "middles": ["rounds(word)", "middle(word, r, s, u)", "is_between(word, r, v, s)"],
+    "trees": ["tree_of_word(word)", "arms(tree, i)", "path(tree, i, j)", "arm_led(tree, i, j)", "tree_text(tree)"],
 }
 LIBRARY = {"math": {"gcd", "lcm", "isqrt", "comb", "perm", "factorial"},
            "itertools": {"product", "combinations", "permutations", "chain", "accumulate", "pairwise", "islice",
