@@ -218,3 +218,32 @@ def error_of(called, *given):
     except DialError as error:
         return type(error), vars(error)
     return None
+
+
+def product_of(one, other):
+    """The product of two tables."""
+    columns = list(zip(*other))
+    return [[sum(a * b for a, b in zip(row, column)) for column in columns] for row in one]
+
+
+def multiplied(f, g):
+    """The product of two polynomials, as the tuple of its coefficients from the constant on."""
+    found = [0] * (len(f) + len(g) - 1)
+    for i, a in enumerate(f):
+        for j, b in enumerate(g):
+            found[i + j] += a * b
+    return tuple(found)
+
+
+def value_at(f, x):
+    """The value of a polynomial at an integer or a fraction."""
+    return sum(c * x ** k for k, c in enumerate(f))
+
+
+def turned(one, other):
+    """-1, 0 or 1, as one of two strings of equally many marks is less, equal or greater in the turned order."""
+    for k, (a, b) in enumerate(zip(one, other)):
+        if a != b:
+            greater = "0*1".index(a) > "0*1".index(b)
+            return 1 if greater == (one[:k].count("1") % 2 == 0) else -1
+    return 0
