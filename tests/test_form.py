@@ -39,7 +39,22 @@ INTERFACE = {
     "angled": ["angled_address(t)", "pair_at(angled)"],
     "middles": ["rounds(word)", "middle(word, r, s, u)", "is_between(word, r, v, s)"],
     "trees": ["tree_of_word(word)", "arms(tree, i)", "path(tree, i, j)", "arm_led(tree, i, j)", "tree_text(tree)"],
+    "corners": ["corner_period(tree, i)", "evil_corners(tree)", "corner_places(t)"],
+    "tables": ["way_table(tree)", "pair_table(word)", "path_table(tree)"],
+    "growth": ["polynomial(table)", "compare_growth(f, g)", "growth_floor(f, bits)", "growth_polynomial(word)"],
+    "sewing": ["sewn_class(t, u, x)", "ring_places(t, u, again)", "sewn_count(t, u, again)", "is_barred(t, u)",
+               "mirrored_pair(pair)"],
+    "middleline": ["folded(x)", "is_on_line(t)", "is_middle_pair(pair)", "middle_pairs(again)"],
+    "middlewords": ["turned_order(r, s)", "is_middle_word(word)", "middle_words(count)", "middle_count(count)",
+                    "middle_place(word)", "is_forced(word, other)"],
+    "periodorder": ["is_ahead(m, n)", "order_of_periods(most)", "least_word(count)", "forced_periods(word, most)"],
+    "laps": ["line_table(word)", "line_polynomial(word)", "lap_counts(word, most)"],
+    "knots": ["knots(ahead, again)", "vein(t, most)", "vein_widths(t, most)", "is_end(t)"],
+    "forks": ["records(t, most)", "fork(t, u, most)", "limb_in(pair, u)"],
+    "deeds": ["done(x, deed)", "all_done(x, deeds)"],
+    "desks": ["Desk(place, *, most=20)"],
 }
+DESK = {"do": ["deed"], "undo": [], "redo": [], "past": [], "ahead": [], "run": ["deeds"], "twin": [], "trial": []}
 LIBRARY = {"math": {"gcd", "lcm", "isqrt", "comb", "perm", "factorial"},
            "itertools": {"product", "combinations", "permutations", "chain", "accumulate", "pairwise", "islice",
                          "zip_longest"},
@@ -80,6 +95,15 @@ class Interface(unittest.TestCase):
                 function = getattr(module, call.partition("(")[0])
                 self.assertEqual(function.__name__ + str(inspect.signature(function)), call)
                 self.assertEqual(function.__module__, "twicedial." + file)
+
+    def test_the_methods_of_the_class(self):
+        desk = importlib.import_module("twicedial.desks").Desk
+        for name, wanted in DESK.items():
+            method = vars(desk)[name]
+            self.assertEqual(list(inspect.signature(method).parameters), ["self", *wanted])
+
+    def test_the_generator(self):
+        self.assertTrue(inspect.isgeneratorfunction(importlib.import_module("twicedial.deeds").all_done))
 
 
 class Form(unittest.TestCase):
@@ -140,6 +164,8 @@ class Form(unittest.TestCase):
             self.assertEqual(len(names), len(set(names)))
 
     def test_names(self):
+        own = {node.name for _, tree in self.each() for holder in ast.walk(tree) if isinstance(holder, ast.ClassDef)
+               for node in holder.body if isinstance(node, ast.FunctionDef)}
         for _, tree in self.each():
             foreign = {name for _, several in imported(tree) for name in several}
             foreign |= {node.name for node in tree.body if isinstance(node, ast.ClassDef)}
@@ -152,7 +178,7 @@ class Form(unittest.TestCase):
                 if isinstance(node, ast.Name) and node.id in BUILTINS:
                     self.assertIn(node.id, ALLOWED)
                 if isinstance(node, ast.Call) and isinstance(node.func, ast.Attribute):
-                    self.assertIn(node.func.attr, METHODS)
+                    self.assertIn(node.func.attr, METHODS | own)
 
     def test_expressions(self):
         for path, tree in self.each():

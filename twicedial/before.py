@@ -37,11 +37,15 @@ def pair_tree(most):
 def way_to(t):
     """The pairs of ever greater periods that lead inwards to the pair of t."""
     own = pair_of(t)
-    # Pairs before t lie one in another, so those behind the chosen one are those between its places.
-    inside = [*pairs_before(t, period(t) - 1), own]
-    way = []
+    return least_first([*pairs_before(t, period(t) - 1), own])
+
+
+def least_first(inside):
+    """Of pairs that lie one in another, that of least period, that of least period inside it, and so on."""
+    found = []
     while inside:
         least = min(inside, key=pair_period)
-        way.append(least)
+        found.append(least)
+        # The pairs lie one in another, so those inside the chosen one come behind it.
         inside = inside[inside.index(least) + 1:]
-    return tuple(way)
+    return tuple(found)

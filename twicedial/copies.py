@@ -12,7 +12,7 @@ def copied(pair, x):
     head, cycle = digits(x)
     if (len(head) + len(cycle)) * pair_period(pair) > MOST_STEPS:
         raise TooMany(MOST_STEPS)
-    return place_of(_copied_digits(pair, head), _copied_digits(pair, cycle))
+    return place_of(copied_digits(pair, head), copied_digits(pair, cycle))
 
 
 def original(pair, y):
@@ -47,15 +47,15 @@ def bases(pair):
     return tuple([base for base in smaller if _has_copies(base, pair)])
 
 
-def _has_copies(base, pair):
-    """Whether both places of the pair are copies in the base."""
-    return original(base, pair[0]) is not None and original(base, pair[1]) is not None
-
-
-def _copied_digits(pair, binary):
+def copied_digits(pair, binary):
     """These digits with the cycle of the lesser place for "0" and that of the greater one for "1"."""
     blocks = {"0": digits(pair[0])[1], "1": digits(pair[1])[1]}
     return "".join([blocks[digit] for digit in binary])
+
+
+def _has_copies(base, pair):
+    """Whether both places of the pair are copies in the base."""
+    return original(base, pair[0]) is not None and original(base, pair[1]) is not None
 
 
 def _original_digits(pair, binary):

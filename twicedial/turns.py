@@ -33,19 +33,7 @@ def turning_number(t):
     """The p and q whose turning pair has t between its places, or as one of them."""
     if t == (0, 1):
         return (0, 1)
-    low = (0, 1)
-    high = (1, 1)
-    # Turning pairs lie on the ring in the sequence of the fractions p / q, so the search goes on
-    # between the two neighbours with the fraction that is simplest between them.
-    while True:
-        middle = (low[0] + high[0], low[1] + high[1])
-        a, b = turning_pair(middle[0], middle[1])
-        if size(t) < size(a):
-            high = middle
-        elif size(b) < size(t):
-            low = middle
-        else:
-            return middle
+    return turn_with_side(lambda p, q: _side(turning_pair(p, q), t))
 
 
 def turning_widths(most):
@@ -68,6 +56,30 @@ def between_turns(t, u):
             if size(t) < size(a) and size(b) < size(u):
                 return (p, q)
     return None
+
+
+def turn_with_side(side):
+    """The p and q for which side(p, q) is 0, where it is -1 for all greater and 1 for all lesser p / q."""
+    low = (0, 1)
+    high = (1, 1)
+    # The search goes on between two neighbours with the fraction that is simplest between them.
+    while True:
+        p, q = low[0] + high[0], low[1] + high[1]
+        found = side(p, q)
+        if found == 0:
+            return (p, q)
+        if found < 0:
+            high = (p, q)
+        else:
+            low = (p, q)
+
+
+def _side(turn, t):
+    """-1, 0 or 1, as t is below the places of a turning pair, from one to the other, or above both."""
+    # Turning pairs lie on the ring in the sequence of the fractions p / q.
+    if size(t) < size(turn[0]):
+        return -1
+    return 1 if size(turn[1]) < size(t) else 0
 
 
 def _check_turn(p, q):

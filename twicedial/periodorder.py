@@ -1,0 +1,40 @@
+"""The order of periods, and the periods that middle words force."""
+
+from twicedial.errors import TooMany
+from twicedial.middlewords import check_middle, is_forced, middle_words
+from twicedial.words import MOST_LISTED
+
+MOST_ORDERED = 1000
+
+
+def is_ahead(m, n):
+    """Whether m comes ahead of n in the order of periods."""
+    return _rank(m) < _rank(n)
+
+
+def order_of_periods(most):
+    """The integers from 1 to most in the order of periods."""
+    if most > MOST_ORDERED:
+        raise TooMany(MOST_ORDERED)
+    return tuple(sorted(range(1, most + 1), key=_rank))
+
+
+def least_word(count):
+    """The least middle word with so many characters in the turned order."""
+    return middle_words(count)[0]
+
+
+def forced_periods(word, most):
+    """The lengths up to most of the middle words that the word forces, ascending."""
+    check_middle(word)
+    if most > MOST_LISTED:
+        raise TooMany(MOST_LISTED)
+    # A word that forces some word of a length forces the least one of this length.
+    return tuple([n for n in range(1, most + 1) if is_forced(word, least_word(n))])
+
+
+def _rank(m):
+    """A tuple that is less for what comes ahead in the order of periods."""
+    twos = (m & -m).bit_length() - 1
+    odd = m >> twos
+    return (1, -twos, 0) if odd == 1 else (0, twos, odd)
