@@ -2,17 +2,22 @@
 
 import functools
 import itertools
+import time
 import unittest
 
 from oracle import error_of, is_plain, turned
 from twicedial.errors import NotMiddle, TooMany
 from twicedial.lets import is_let, place_count
+from twicedial.middlewords import is_forced, middle_words
 from twicedial.periodorder import forced_periods, is_ahead, least_word, order_of_periods
 from twicedial.words import star_words
 
 # The middle words of each length, by another description of [76], and sorted by a comparison.
 MIDDLE = {count: sorted([word for word in star_words(count) if is_let(word) and place_count(word) <= 2],
                         key=functools.cmp_to_key(turned)) for count in range(1, 13)}
+
+# The least words of 9 to 12 characters.
+LEAST_LONG = ["10111111*", "101110101*", "1011111111*", "10111010101*"]
 
 
 def listed_order(most):
@@ -28,6 +33,11 @@ def listed_order(most):
 def rows_turned(one, other):
     """The turned order of the rows of two words."""
     return turned((one * 24)[:40], (other * 24)[:40])
+
+
+def asked_often():
+    """One set of the calls that are asked often."""
+    return ([least_word(count) for count in (9, 10, 11, 12)], forced_periods("*", 12), forced_periods("10*", 12))
 
 
 class Order(unittest.TestCase):
@@ -80,9 +90,14 @@ class LeastWords(unittest.TestCase):
             self.assertEqual(least_word(count), words[0])
             self.assertTrue(all(turned(words[0], word) <= 0 for word in words))
 
+    def test_p81_least_word_is_the_first_of_the_middle_words(self):
+        for count in range(1, 13):
+            self.assertEqual(least_word(count), middle_words(count)[0])
+
     def test_p81_least_word_examples(self):
         self.assertEqual([least_word(count) for count in range(1, 9)],
                          ["*", "1*", "10*", "101*", "1011*", "10111*", "101111*", "1011101*"])
+        self.assertEqual([least_word(count) for count in range(9, 13)], LEAST_LONG)
 
     def test_p81_least_word_limit(self):
         self.assertEqual(len(least_word(12)), 12)
@@ -96,6 +111,13 @@ class LeastWords(unittest.TestCase):
             self.assertEqual(forced_periods(word, 12), tuple(wanted), word)
             for most in (1, 2, 3, 7):
                 self.assertEqual(forced_periods(word, most), tuple(n for n in wanted if n <= most))
+
+    def test_p81_forced_periods_against_every_middle_word(self):
+        listed = {n: middle_words(n) for n in range(1, 13)}
+        for word in [word for count in range(1, 8) for word in listed[count]]:
+            forced = [n for n in listed if any([is_forced(word, other) for other in listed[n]])]
+            for most in range(1, 13):
+                self.assertEqual(forced_periods(word, most), tuple(n for n in forced if n <= most), (word, most))
 
     def test_p81_the_own_length_and_all_behind_it(self):
         for count, words in MIDDLE.items():
@@ -122,6 +144,14 @@ class LeastWords(unittest.TestCase):
         for word in ("*", "1*", "10*", "1" + "0" * 22 + "*"):
             for most in (13, 14, 100):
                 self.assertEqual(error_of(forced_periods, word, most), (TooMany, {"limit": 12}))
+
+    def test_p81_asked_often(self):
+        wanted = (LEAST_LONG, (1,), tuple(range(1, 13)))
+        begun = time.process_time()
+        for _ in range(100):
+            self.assertEqual(asked_often(), wanted)
+        # Each set has to end within 10 milliseconds; to search all words for the least took 60.
+        self.assertLess(time.process_time() - begun, 2)
 
     def test_p80_kinds(self):
         self.assertTrue(is_plain((is_ahead(3, 5), order_of_periods(9), least_word(5), forced_periods("10*", 5))))
